@@ -1,0 +1,1 @@
+"""Tables about some of five questions that agree, or don't, on what they share."""
