@@ -8,15 +8,19 @@ import unittest
 from unittest import mock
 
 from agreeingtables.questions import UnknownCall, answers
-from lines import AGREE, BEGIN, LEAST, MOST, add, flat, share
+from lines import AGREE, ALL_ASKED, BEGIN, JOINT, LEAST, MOST, POSSIBLE, add, flat, share
 
 LINE = flat([
     BEGIN, add(3, [1, 2, 3, 4]), share(0, 1, 1), add(0, []), share(0, 4, 0), AGREE, add(3, [4, 3, 2, 1]), AGREE,
-    BEGIN, AGREE, share(0, 0, 0),
-])
-GIVEN = [1, 0, 1, 0, 1, 6, 1, -1, 1, -1, 1, 1, 1, 1, 1, 0, 1, 0, 1, 1, 1, -1]
-OTHER = flat([BEGIN, add(1, [7, 8]), add(2, [9, 9]), share(1, 2, 2), AGREE])
-OTHER_GIVEN = [1, 0, 1, 0, 1, 1, 1, 9, 1, 0]
+    BEGIN, AGREE, share(0, 0, 0), add(3, [1, 0, 0, 1]), add(6, [1, 0, 0, 1]), JOINT, POSSIBLE, add(5, [0, 1, 1, 0]),
+] + ALL_ASKED)
+GIVEN = [
+    1, 0, 1, 0, 1, 6, 1, -1, 1, -1, 1, 1, 1, 1, 1, 0,
+    1, 0, 1, 1, 1, -1, 1, 0, 1, 1, 1, 1, 1, 8, 1, 2,
+    1, 1, 1, 0, 1, 0, 1, 0, 1, 0,
+]
+OTHER = flat([BEGIN, add(1, [7, 8]), add(2, [9, 9]), share(1, 2, 2)] + ALL_ASKED)
+OTHER_GIVEN = [1, 0, 1, 0, 1, 1, 1, 9, 1, 0, 1, 0, 1, 32, 1, 1, 1, 1]
 
 
 def refuse(*values, **named):
@@ -57,6 +61,15 @@ class GivenBack(unittest.TestCase):
     def test_a_hundred_calls_most_of_them_agree(self):
         given = answers(flat([BEGIN] + [add(31, list(range(32)))] * 8 + [AGREE] * 91))
         self.assertEqual(given[1::2], [0] + list(range(8)) + [1] * 91)
+
+    def test_each_number_stands_for_its_call(self):
+        for tables, expected in (
+            ([add(mask, [1, 4, 4, 1]) for mask in (3, 6, 5)], [1, 0, 32, 1, 0]),
+            ([add(3, [1, 0, 0, 1]), add(6, [1, 0, 0, 1]), add(5, [0, 1, 1, 0])], [1, 0, 0, 0, 0]),
+            ([add(3, [1, 2, 3, 4]), add(6, [4, 3, 2, 0])], [0, 0, 24, 1, 1]),
+        ):
+            with self.subTest(tables=tables):
+                self.assertEqual([answers(flat([BEGIN] + tables) + [number])[-1] for number in range(3, 8)], expected)
 
     def test_a_number_that_no_call_has(self):
         for number in (-1, 8, 100):
